@@ -1,0 +1,1 @@
+"""Throwgate: straight throws through gates that stand upright on a beach."""
