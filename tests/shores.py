@@ -198,3 +198,74 @@ class ShoreCase(unittest.TestCase):
     def check_three(self, three):
         self.assertIs(type(three), tuple)
         self.assertEqual([type(place) for place in three], [int] * 3)
+
+
+class PlainBeach:
+    """A beach that keeps its deeds alone and does them all again whenever its gates are asked for."""
+
+    def __init__(self):
+        self.done = []
+
+    def ends(self):
+        ends = {}
+        for word, place, foot, head in self.done:
+            if word == "put":
+                ends[place] = (foot, head)
+            elif word == "take":
+                ends.pop(place)
+            else:
+                sign = {"lift": 1, "sink": -1}[word]
+                ends[place] = (ends[place][0] + sign * foot, ends[place][1] + sign * head)
+        return ends
+
+    def gates(self):
+        return [(place,) + ends for place, ends in sorted(self.ends().items())]
+
+    def refusals(self, word, place, foot, head):
+        """The names of all refusals that are due for a deed, in their order."""
+        ends = self.ends()
+        if word == "put":
+            due = ["Taken"] if place in ends else []
+            after = (foot, head)
+        else:
+            due = [] if place in ends else ["NoGate"]
+            sign = {"take": 0, "lift": 1, "sink": -1}[word]
+            before = ends.get(place, (0, 0))
+            after = (before[0] + sign * foot, before[1] + sign * head)
+        if word != "take":
+            if after[0] > after[1]:
+                due.append("UpsideDown")
+            numbers = after + (place,) if word == "put" else after
+            if min(numbers) < -1000 or max(numbers) > 1000:
+                due.append("OutOfBounds")
+        if word == "put" and len(ends) >= 40:
+            due.append("BeachFull")
+        if len(self.done) >= 300:
+            due.append("DeedsFull")
+        return due
+
+    def do(self, word, place, foot, head):
+        """The gate that the deed tells, which none refuses."""
+        before = self.ends().get(place)
+        self.done.append((word, place, foot, head))
+        return (place,) + self.ends().get(place, before)
+
+    def back(self, many):
+        self.done = self.done[:len(self.done) - many]
+        return len(self.done)
+
+
+def do_on(beach, word, place, foot, head):
+    """One deed, asked of a Beach."""
+    if word == "take":
+        return beach.take(place)
+    return getattr(beach, word)(place, foot, head)
+
+
+def beach_of(beach, gates, deeds=None):
+    """The beach with these gates on it, and with so many deeds that stand."""
+    for gate in gates:
+        beach.put(*gate)
+    while deeds is not None and beach.deeds() < deeds:
+        beach.lift(gates[0][0], 0, 0)
+    return beach

@@ -12,6 +12,10 @@ def passes_all(throw, gates):
     return all([passes(throw, gate) for gate in gates])
 
 
+def places_passed(throw, ordered):
+    return [gate[0] for gate in ordered if passes(throw, gate)]
+
+
 def foot_to_head(earlier, later):
     return (later[2] - earlier[1], later[0] - earlier[0])
 
